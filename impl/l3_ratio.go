@@ -105,6 +105,11 @@ func flooredQuotient(num int, den int) int {
 	return q
 }
 
+// ceiledQuotient returns a number divided by a positive one, rounded up.
+func ceiledQuotient(num int, den int) int {
+	return -flooredQuotient(-num, den)
+}
+
 // roundedQuotient returns a number divided by a positive one, rounded to the nearest number, halves up.
 func roundedQuotient(num int, den int) int {
 	return flooredQuotient(2*num+den, 2*den)

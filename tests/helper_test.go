@@ -92,6 +92,15 @@ func ratioOf(x *big.Rat) (impl.Ratio, bool) {
 
 // rounded returns a number of the library rounded to the nearest whole one, halves up.
 func rounded(x *big.Rat) int {
-	y := new(big.Rat).Add(x, big.NewRat(1, 2))
-	return int(new(big.Int).Div(y.Num(), y.Denom()).Int64())
+	return roundedDown(new(big.Rat).Add(x, big.NewRat(1, 2)))
+}
+
+// roundedDown returns a number of the library rounded down.
+func roundedDown(x *big.Rat) int {
+	return int(new(big.Int).Div(x.Num(), x.Denom()).Int64())
+}
+
+// roundedUp returns a number of the library rounded up.
+func roundedUp(x *big.Rat) int {
+	return -roundedDown(new(big.Rat).Neg(x))
 }
