@@ -35,10 +35,15 @@ func YearPart(kind int, from int, to int) (Ratio, bool) {
 // InterestOf returns the interest of an amount.
 func InterestOf(amount int, rate int, kind int, from int, to int) int {
 	part, ok := YearPart(kind, from, to)
-	if !ok || !between(amount, 0, MaxPrincipal) || !between(rate, 0, MaxRate) {
+	if !ok || !between(amount, 0, MaxPrincipal) || !validRate(rate) {
 		return -1
 	}
 	return roundedQuotient(amount*rate*part.Num, 10000*part.Den)
+}
+
+// validRate reports whether a number is a rate in hundredths of a percent.
+func validRate(n int) bool {
+	return between(n, 0, MaxRate)
 }
 
 func countFixed(from int, to int) (num int, den int) {
