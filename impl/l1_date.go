@@ -1,5 +1,7 @@
 package impl
 
+import "slices"
+
 // MinYear is the first year.
 const MinYear = 1990
 
@@ -76,6 +78,12 @@ func AddMonths(n int, months int) int {
 // between reports whether a number is not less than a first one and not greater than a second one.
 func between(n int, low int, high int) bool {
 	return low <= n && n <= high
+}
+
+// allValid reports whether the number of elements of a list is within limits and each of them is valid.
+func allValid[T any](list []T, least int, most int, valid func(element T) bool) bool {
+	invalid := func(element T) bool { return !valid(element) }
+	return between(len(list), least, most) && !slices.ContainsFunc(list, invalid)
 }
 
 // validDay reports whether a number is that of a day.

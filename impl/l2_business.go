@@ -95,17 +95,27 @@ func validSpan(from int, to int) bool {
 
 // holidaysOf returns the set of valid holidays.
 func holidaysOf(h []int) (holidaySet, bool) {
-	if len(h) > MaxHolidays {
+	if !ascendingDays(h, MaxHolidays) {
 		return nil, false
 	}
 	set := make(holidaySet, len(h))
-	for i, n := range h {
-		if !validDay(n) || i > 0 && n <= h[i-1] {
-			return nil, false
-		}
+	for _, n := range h {
 		set[n] = true
 	}
 	return set, true
+}
+
+// ascendingDays reports whether numbers are days in ascending order, and not more than a limit.
+func ascendingDays(list []int, most int) bool {
+	if !allValid(list, 0, most, validDay) {
+		return false
+	}
+	for i := 1; i < len(list); i++ {
+		if list[i] <= list[i-1] {
+			return false
+		}
+	}
+	return true
 }
 
 // open reports whether a valid day is a business day.

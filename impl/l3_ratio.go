@@ -54,10 +54,15 @@ func CompareRatio(a Ratio, b Ratio) int {
 
 // ShareOf returns an amount times a ratio.
 func ShareOf(amount int, r Ratio) (int, bool) {
-	if !between(amount, -MaxAmount, MaxAmount) || !r.valid() || !between(r.Num, 0, r.Den) {
+	if !validAmount(amount) || !r.valid() || !between(r.Num, 0, r.Den) {
 		return 0, false
 	}
 	return roundedQuotient(amount*r.Num, r.Den), true
+}
+
+// validAmount reports whether a number is an amount.
+func validAmount(n int) bool {
+	return between(n, -MaxAmount, MaxAmount)
 }
 
 // hasTerms reports whether both terms are within their limits.
@@ -87,13 +92,16 @@ func (r Ratio) lowestValid() (Ratio, bool) {
 
 // commonDivisor returns the greatest common divisor of a number and a positive one.
 func commonDivisor(a int, b int) int {
-	if a < 0 {
-		a = -a
-	}
+	a = absolute(a)
 	for a > 0 {
 		a, b = b%a, a
 	}
 	return b
+}
+
+// absolute returns the distance of a number from 0.
+func absolute(n int) int {
+	return max(n, -n)
 }
 
 // flooredQuotient returns a number divided by a positive one, rounded down.
