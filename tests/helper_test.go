@@ -104,3 +104,27 @@ func roundedDown(x *big.Rat) int {
 func roundedUp(x *big.Rat) int {
 	return -roundedDown(new(big.Rat).Neg(x))
 }
+
+// almost returns a text and all texts that differ from it by one byte that is left out, put in or another one, by two
+// neighbours that are exchanged, or by a part that is missing or comes twice.
+func almost(text string) []string {
+	out := []string{text, text + text}
+	for i := range len(text) + 1 {
+		before, behind := text[:i], text[i:]
+		for c := range 256 {
+			put := string([]byte{byte(c)})
+			out = append(out, before+put+behind)
+			if behind != "" {
+				out = append(out, before+put+behind[1:])
+			}
+		}
+		out = append(out, before, behind, before+before+behind)
+		if behind != "" {
+			out = append(out, before+behind[1:])
+		}
+		if len(behind) > 1 {
+			out = append(out, before+behind[1:2]+behind[:1]+behind[2:])
+		}
+	}
+	return out
+}
