@@ -2,6 +2,7 @@ package tests
 
 import (
 	"math/big"
+	"math/rand/v2"
 	"slices"
 	"testing"
 
@@ -453,6 +454,36 @@ func TestP146PartsOfFallingCurvesFall(t *testing.T) {
 		if len(c) > 1 && impl.SureCurve(c) && (!impl.SureCurve(c[:len(c)-1]) || !impl.SureCurve(c[1:])) {
 			t.Errorf("a part of %v does not fall", c)
 		}
+	}
+}
+
+func TestP160ForAllRatesBondsWithTheseRatesAreWorth1(t *testing.T) {
+	random := rand.New(rand.NewPCG(11, 160))
+	seen := map[bool]int{}
+	for range 20000 {
+		rates := make([]int, 1+random.IntN(12))
+		limit := []int{10, 500, 1500, 3000}[random.IntN(4)]
+		for i := range rates {
+			rates[i] = random.IntN(limit + 1)
+		}
+		c, ok := impl.CurveOf(rates)
+		want, valid := plainCurve(rates)
+		if ok != valid || !slices.Equal(c, want) {
+			t.Fatalf("CurveOf(%v) = %v, %v, want %v, %v", rates, c, ok, want, valid)
+		}
+		seen[ok]++
+		for i := range c {
+			if r, ok := impl.ParValue(c, rates[i], i+1); !ok || !impl.InRange(r, 1000000) {
+				t.Fatalf("ParValue of year %d with CurveOf(%v) = %v, %v", i+1, rates, r, ok)
+			}
+		}
+		rates[random.IntN(len(rates))] = noRates[random.IntN(len(noRates))]
+		if c, ok := impl.CurveOf(rates); ok || c != nil {
+			t.Fatalf("CurveOf(%v) = %v, %v", rates, c, ok)
+		}
+	}
+	if seen[true] < 5000 || seen[false] < 1000 {
+		t.Errorf("curves: %v", seen)
 	}
 }
 

@@ -343,6 +343,39 @@ func TestP151ReversedPostingsReverseBalances(t *testing.T) {
 	}
 }
 
+func TestP162InAllLedgersNothingIsLost(t *testing.T) {
+	r := rand.New(rand.NewPCG(16, 162))
+	seen := map[bool]int{}
+	for range 10000 {
+		list := make([]impl.Post, r.IntN(42))
+		for k := range list {
+			list[k] = impl.Post{From: r.IntN(6), To: r.IntN(6), Amount: 1 + r.IntN([]int{5, 1000, impl.MaxAmount}[r.IntN(3)])}
+			if list[k].From == list[k].To && r.IntN(200) > 0 {
+				list[k].To = (list[k].From + 1) % 6
+			}
+		}
+		sum, valid := 0, impl.ValidPosts(list)
+		for account := range 6 {
+			want := 0
+			if valid {
+				want = plainBalance(list, account)
+			}
+			balance := impl.BalanceOf(list, account)
+			if balance != want {
+				t.Fatalf("BalanceOf(%v, %d) = %d, want %d", list, account, balance, want)
+			}
+			sum += balance
+		}
+		if sum != 0 {
+			t.Fatalf("all balances of %v are %d", list, sum)
+		}
+		seen[valid]++
+	}
+	if seen[true] < 5000 || seen[false] < 300 {
+		t.Errorf("valid ledgers: %v", seen)
+	}
+}
+
 func TestLedgersStay(t *testing.T) {
 	list := []impl.Post{{From: 0, To: 1, Amount: 5}, {From: 3, To: 2, Amount: 7}, {From: 4, To: 5, Amount: 1}}
 	trades := []impl.Trade{{Day: 1, Many: 10, Price: 100}, {Day: 2, Many: -4, Price: 110}}

@@ -400,6 +400,34 @@ func TestP152EqualWeightsShareEqually(t *testing.T) {
 	}
 }
 
+func TestP161AllAmountsAreSharedWholly(t *testing.T) {
+	r := rand.New(rand.NewPCG(18, 161))
+	for range 50000 {
+		weights := make([]int, 1+r.IntN(8))
+		limit := []int{2, 10, 1000, 10000}[r.IntN(4)]
+		for i := range weights {
+			weights[i] = r.IntN(limit)
+		}
+		total := plainTotal(weights)
+		amount := r.IntN([]int{10, 1000, 1000000, impl.MaxAmount + 1}[r.IntN(4)])
+		got := impl.ProRate(amount, weights)
+		if total == 0 {
+			if got != nil {
+				t.Fatalf("ProRate(%d, %v) = %v", amount, weights, got)
+			}
+			continue
+		}
+		if len(got) != len(weights) || plainTotal(got) != amount {
+			t.Fatalf("ProRate(%d, %v) = %v", amount, weights, got)
+		}
+		for i, w := range weights {
+			if apart(got[i]*total, amount*w) >= total {
+				t.Fatalf("ProRate(%d, %v) = %v", amount, weights, got)
+			}
+		}
+	}
+}
+
 func TestHoldingsStay(t *testing.T) {
 	list := []int{3, 5, 6, 7, 9}
 	want := slices.Clone(list)

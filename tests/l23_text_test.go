@@ -2,6 +2,7 @@ package tests
 
 import (
 	"fmt"
+	"math/rand/v2"
 	"regexp"
 	"slices"
 	"strconv"
@@ -344,5 +345,44 @@ func TestP115BondsHaveOneText(t *testing.T) {
 	}
 	if seen == 0 {
 		t.Error("ParseBond accepts no text")
+	}
+}
+
+// randomText returns the text of a bond with up to three changes, or signs in no order.
+func randomText(r *rand.Rand) string {
+	signs := "0123456789.- +x\xff"
+	text := ""
+	if r.IntN(10) == 0 {
+		for range r.IntN(40) {
+			text += signs[r.IntN(len(signs)):][:1]
+		}
+		return text
+	}
+	text = plainBond(randomBond(r))
+	for range r.IntN(4) {
+		at := r.IntN(len(text))
+		put := signs[r.IntN(10):][:1]
+		if r.IntN(4) == 0 {
+			put = signs[r.IntN(len(signs)):][:1]
+		}
+		text = text[:at] + []string{put, put, put, put + text[at:at+1], ""}[r.IntN(5)] + text[at+1:]
+	}
+	return text
+}
+
+func TestP163EveryTextIsABondsOrNone(t *testing.T) {
+	r := rand.New(rand.NewPCG(23, 163))
+	seen := map[bool]int{}
+	for range 20000 {
+		s := randomText(r)
+		checkBond(t, s)
+		b, ok := impl.ParseBond(s)
+		if ok && impl.FormatBond(b) != s || !ok && b != (impl.Bond{}) {
+			t.Fatalf("ParseBond(%q) = %v, %v", s, b, ok)
+		}
+		seen[ok]++
+	}
+	if seen[true] < 3000 || seen[false] < 3000 {
+		t.Errorf("bonds: %v", seen)
 	}
 }

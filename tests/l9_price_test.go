@@ -2,6 +2,7 @@ package tests
 
 import (
 	"math/big"
+	"math/rand/v2"
 	"slices"
 	"testing"
 
@@ -512,4 +513,44 @@ func TestP143WithoutAYieldThePriceIsTheSum(t *testing.T) {
 			t.Fatalf("YieldOf(%v, %d, %d) = %d, %d", b, n, sum, least, most)
 		}
 	})
+}
+
+// randomBond returns a valid bond with any end, number of months, rate and number of periods, whose first period may be
+// short or whole.
+func randomBond(r *rand.Rand) impl.Bond {
+	for {
+		b := impl.Bond{End: r.IntN(impl.MaxDay + 1), Months: terms[r.IntN(4)], Rate: r.IntN(impl.MaxRate + 1)}
+		b.Start = calendarAddMonths(b.End, -(1+r.IntN(40))*b.Months)
+		if r.IntN(3) > 0 {
+			b.Start += r.IntN(28 * b.Months)
+		}
+		if b.Start >= 0 && plainSchedule(b.Start, b.End, b.Months) != nil {
+			return b
+		}
+	}
+}
+
+func TestP159EveryPriceOfEveryBondTellsItsYields(t *testing.T) {
+	r := rand.New(rand.NewPCG(9, 159))
+	both := 0
+	for range 3000 {
+		b := randomBond(r)
+		n := b.Start + r.IntN(b.End-b.Start)
+		bounds := impl.PriceOf(b, n, 2500*r.IntN(41))
+		for _, dirty := range []int{bounds.Low, bounds.High, bounds.Low - 1, bounds.High + 1, r.IntN(2*paymentsBehind(b, n)) - 100, extremes[r.IntN(4)]} {
+			least, most := impl.YieldOf(b, n, dirty)
+			if least != -1 && (impl.PriceOf(b, n, least).Low < dirty || least%2500 != 0) || most != -1 && (impl.PriceOf(b, n, most).High > dirty || most%2500 != 0) || most != -1 && least > most {
+				t.Fatalf("YieldOf(%v, %d, %d) = %d, %d", b, n, dirty, least, most)
+			}
+			if (least == -1) != (dirty > paymentsBehind(b, n)) || (most == -1) != (dirty < impl.PriceOf(b, n, 100000).High) {
+				t.Fatalf("YieldOf(%v, %d, %d) = %d, %d", b, n, dirty, least, most)
+			}
+			if least != -1 && most != -1 {
+				both++
+			}
+		}
+	}
+	if both < 5000 {
+		t.Errorf("only %d prices have both yields", both)
+	}
 }
